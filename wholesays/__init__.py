@@ -1,0 +1,1 @@
+"""Sentences about whole numbers."""

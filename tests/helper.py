@@ -1,8 +1,10 @@
 """What the tests share: asking by written texts, and two plain ways to know the answer."""
 
+import inspect
 import re
+import sys
 
-from wholesays.sentences import is_true
+from wholesays.sentences import is_true, least
 
 PART = "(?:0|[1-9][0-9]?|[1-9]?[xyz])"
 SUM = rf"{PART}(?:\+{PART})*"
@@ -19,6 +21,30 @@ def as_bytes(text):
 
 def ask_true(text):
     return is_true(as_bytes(text))
+
+
+def ask_least(text):
+    return least(as_bytes(text))
+
+
+def seal(text):
+    """The bytes of a text in a list that fails if it is changed."""
+    def refuse(*args, **kwargs):
+        raise AssertionError("changed")
+
+    changing = ("__setitem__", "__delitem__", "__iadd__", "__imul__", "append", "clear", "extend", "insert", "pop",
+                "remove", "reverse", "sort")
+    return type("Sealed", (list,), {name: refuse for name in changing})(as_bytes(text))
+
+
+def with_low_limit(work):
+    """What work answers where only few calls may stand in one another."""
+    before = sys.getrecursionlimit()
+    sys.setrecursionlimit(len(inspect.stack(0)) + 30)
+    try:
+        return work()
+    finally:
+        sys.setrecursionlimit(before)
 
 
 def is_text(text):
@@ -63,9 +89,19 @@ def source(text, reaches):
     return f"{word}({inner} for {left[0]} in range({reaches[0]}))", behind
 
 
-def true_by_trial(text, reaches):
-    """Whether it is so if A and E, from the outermost in, try just the numbers below these reaches."""
+def whole_source(text, reaches):
     written, left = source(text, reaches)
     if left != "":
         raise ValueError(text)
-    return [1 if eval(written) else 0]
+    return written
+
+
+def true_by_trial(text, reaches):
+    """Whether it is so if A and E, from the outermost in, try just the numbers below these reaches."""
+    return [1 if eval(whole_source(text, reaches)) else 0]
+
+
+def least_by_trial(text, reaches):
+    """The least x below the first reach, if A and E try just the numbers below the others."""
+    found = eval(f"next((x for x in range({reaches[0]}) if {whole_source(text, reaches[1:])}), None)")
+    return [0] if found is None else [1, found]

@@ -1,9 +1,9 @@
-"""Promise 1: many sentences, each also answered by trying numbers, as far as their size calls for."""
+"""Promises 1 and 2: many texts, each also answered by trying numbers, as far as their size calls for."""
 
 import random
 import unittest
 
-from helper import ask_true, true_by_trial
+from helper import ask_least, ask_true, least_by_trial, true_by_trial
 
 # A number of 99 at most on each side: claims change last at 99, and rests come round within 2520.
 ONE_DEEP_REACH = (2625,)
@@ -13,9 +13,12 @@ ONE_DEEP_REACH = (2625,)
 # round within 6.
 TWO_DEEP_REACHES = (62, 152)
 
+# Of the gaps that are written here there is none where the outer number is 3 * 60 or more.
+GAP_REACHES = (180, 600)
+
 
 class Writer:
-    """Writes sentences by chance, always the same ones."""
+    """Writes texts by chance, always the same ones."""
 
     def __init__(self, seed, most_times, most_number, most_divisor):
         self.chance = random.Random(seed)
@@ -64,6 +67,19 @@ class Writer:
             within = f"({self.text([outer], 1)}{sign}{within})"
         return self.binder(outer) + within
 
+    def flat(self):
+        """Of x alone, without A and E."""
+        return self.text(["x"], self.chance.randint(1, 6))
+
+    def of_x(self):
+        """One deep, with x free or bound twice over."""
+        inner = self.chance.choice("yyyzzzx")
+        within = self.binder(inner) + self.text(sorted({"x", inner}), self.chance.randint(1, 4))
+        if inner == "x" or self.chance.random() < 0.4:
+            sign = self.chance.choice("&|>")
+            within = f"({self.text(['x'], 1)}{sign}{within})"
+        return within
+
     def side(self, bound):
         parts = [self.part(unknown) for unknown in bound if self.chance.random() < 0.7]
         return "+".join(parts + [str(self.chance.randint(0, self.most_number))])
@@ -86,18 +102,36 @@ class Writer:
             f"A{outer}({self.fence(outer)}>E{inner}({self.fence(inner)}&!({claims[0]}&{claims[1]})))",
         ))
 
+    def fenced_of_x(self):
+        """One deep, with x free, and decided by numbers below 60."""
+        pair = ["x", self.chance.choice("yz")]
+        claims = [f"[{self.side(pair)}{sign}{self.side(pair)}]" for sign in self.chance.choice(("==", "=<", "<<"))]
+        fence = self.fence(pair[1])
+        return self.chance.choice((
+            f"({self.fence('x')}&E{pair[1]}(({claims[0]}&{claims[1]})&{fence}))",
+            f"({self.fence('x')}&A{pair[1]}({fence}>({claims[0]}|{claims[1]})))",
+            f"!({self.fence('x')}>E{pair[1]}({fence}&({claims[0]}>{claims[1]})))",
+        ))
+
     def gap(self):
+        """For some number the gap is as gap_of says."""
+        outer, inner = self.chance.sample("xyz", 2)
+        return f"E{outer}{self.gap_of(outer, inner)}"
+
+    def gap_of_x(self):
+        return self.gap_of("x", self.chance.choice("yz"))
+
+    def gap_of(self, outer, inner):
         """Of numbers between two sums, which get ever fewer: there are some, and all leave a rest."""
         while True:
             a, b, c, d = [self.chance.randint(1, self.most_times) for _ in range(4)]
             if a * c > b * d:
                 break
         number = self.chance.randint(self.most_number // 2, self.most_number)
-        outer, inner = self.chance.sample("xyz", 2)
         between = f"([{a}{outer}<{b}{inner}]&[{c}{inner}<{d}{outer}+{number}])"
         divisor = self.chance.randint(2, self.most_divisor)
         rest = f"[{inner}%{divisor}={self.chance.randrange(divisor)}]"
-        return f"E{outer}(E{inner}{between}&A{inner}({between}>{rest}))"
+        return f"(E{inner}{between}&A{inner}({between}>{rest}))"
 
 
 class Crossing(unittest.TestCase):
@@ -136,6 +170,13 @@ class Crossing(unittest.TestCase):
             for text, answer in ((f"ExEy{both}", 1), (f"EyEx{both}", 1), (f"AxAy!{both}", 0), (f"Ay!Ex{both}", 0)):
                 self.assertEqual(ask_true(text), [answer], (text, point))
 
+    def test_least_is_of_the_meeting_point(self):
+        for _ in range(400):
+            both, point = self.cross()
+            swapped = both.translate(str.maketrans("xy", "yx"))
+            for text, answer in ((f"Ey{both}", point[0]), (f"!Ay!{both}", point[0]), (f"Ey{swapped}", point[1])):
+                self.assertEqual(ask_least(text), [1, answer], (text, point))
+
     def test_no_other_point_is_found(self):
         for _ in range(400):
             both, point = self.cross()
@@ -147,30 +188,65 @@ class Crossing(unittest.TestCase):
 
 
 class ByTrial(unittest.TestCase):
-    def compare(self, write, count, reaches):
+    def compare(self, write, count, ask, answer_by_trial):
         answers = []
         while len(answers) < count:
             text = write()
             if len(text) <= 64:
-                answer = ask_true(text)
-                self.assertEqual(answer, true_by_trial(text, reaches), text)
+                answer = ask(text)
+                self.assertEqual(answer, answer_by_trial(text), text)
                 answers.append(answer)
-        # Neither answer may stand for nearly all.
-        for answer in ([0], [1]):
-            self.assertGreater(answers.count(answer), count // 5)
+        return answers
+
+    # No answer may stand for nearly all.
+    def assert_common(self, answers, share, which):
+        self.assertGreater(len([answer for answer in answers if which(answer)]), len(answers) // share)
+
+
+class TrueByTrial(ByTrial):
+    def both_answers(self, write, count, reaches):
+        answers = self.compare(write, count, ask_true, lambda text: true_by_trial(text, reaches))
+        self.assert_common(answers, 5, lambda answer: answer == [0])
+        self.assert_common(answers, 5, lambda answer: answer == [1])
 
     def test_one_deep(self):
-        self.compare(Writer(11, 9, 99, 9).one_deep, 1500, ONE_DEEP_REACH)
+        self.both_answers(Writer(11, 9, 99, 9).one_deep, 1500, ONE_DEEP_REACH)
 
     def test_two_deep(self):
-        self.compare(Writer(12, 2, 4, 3).two_deep, 1500, TWO_DEEP_REACHES)
+        self.both_answers(Writer(12, 2, 4, 3).two_deep, 1500, TWO_DEEP_REACHES)
 
     def test_two_deep_and_fenced(self):
-        self.compare(Writer(14, 3, 60, 4).fenced, 1500, (60, 60))
+        self.both_answers(Writer(14, 3, 60, 4).fenced, 1500, (60, 60))
 
     def test_gaps(self):
-        # By a*c > b*d there is no gap where the outer number is 3 * 60 or more.
-        self.compare(Writer(15, 3, 60, 4).gap, 150, (180, 600))
+        self.both_answers(Writer(15, 3, 60, 4).gap, 150, GAP_REACHES)
+
+
+class LeastByTrial(ByTrial):
+    def all_answers(self, write, count, reaches):
+        answers = self.compare(write, count, ask_least, lambda text: least_by_trial(text, reaches))
+        self.assert_common(answers, 5, lambda answer: answer == [0])
+        self.assert_common(answers, 8, lambda answer: answer[0] == 1 and answer[1] > 0)
+
+    def test_without_all_and_some(self):
+        self.all_answers(Writer(21, 9, 99, 9).flat, 1500, ONE_DEEP_REACH)
+
+    def test_one_deep(self):
+        self.all_answers(Writer(22, 2, 4, 3).of_x, 1500, TWO_DEEP_REACHES)
+
+    def test_one_deep_and_fenced(self):
+        self.all_answers(Writer(24, 3, 60, 4).fenced_of_x, 1500, (60, 60))
+
+    def test_gaps(self):
+        self.all_answers(Writer(25, 3, 60, 4).gap_of_x, 150, GAP_REACHES)
+
+    def test_x_is_not_free(self):
+        def by_trial(text):
+            return [1, 0] if true_by_trial(text, (60, 60)) == [1] else [0]
+
+        answers = self.compare(Writer(26, 3, 60, 4).fenced, 500, ask_least, by_trial)
+        self.assert_common(answers, 5, lambda answer: answer == [0])
+        self.assert_common(answers, 5, lambda answer: answer == [1, 0])
 
 
 if __name__ == "__main__":

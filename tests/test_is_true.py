@@ -1,11 +1,9 @@
 """Promise 1: is_true, ordinary inputs and the edges that the document names."""
 
-import inspect
 import itertools
-import sys
 import unittest
 
-from helper import as_bytes, ask_true
+from helper import as_bytes, ask_true, seal, with_low_limit
 from wholesays.sentences import is_true
 
 
@@ -207,13 +205,7 @@ class Nesting(Asking):
 
     def test_by_loops(self):
         texts = [as_bytes(text) for text in ("!" * 59 + "[0=1]", "Ax" + "!" * 56 + "[x=x]", "AxEy" + "!" * 54 + "[x=y]")]
-        before = sys.getrecursionlimit()
-        sys.setrecursionlimit(len(inspect.stack(0)) + 30)
-        try:
-            got = [is_true(text) for text in texts]
-        finally:
-            sys.setrecursionlimit(before)
-        self.assertEqual(got, [[1], [1], [1]])
+        self.assertEqual(with_low_limit(lambda: [is_true(text) for text in texts]), [[1], [1], [1]])
 
 
 class HandedIn(Asking):
@@ -226,14 +218,8 @@ class HandedIn(Asking):
             self.assertEqual(handed, as_bytes(text))
 
     def test_is_not_changed_for_a_while_either(self):
-        def refuse(*args, **kwargs):
-            raise AssertionError("changed")
-
-        changing = ("__setitem__", "__delitem__", "__iadd__", "__imul__", "append", "clear", "extend", "insert", "pop",
-                    "remove", "reverse", "sort")
-        sealed = type("Sealed", (list,), {name: refuse for name in changing})
         for text in self.TEXTS:
-            self.assertEqual(is_true(sealed(as_bytes(text))), ask_true(text))
+            self.assertEqual(is_true(seal(text)), ask_true(text))
 
     def test_second_call_answers_as_the_first(self):
         first = [ask_true(text) for text in self.TEXTS]

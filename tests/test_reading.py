@@ -1,10 +1,10 @@
-"""Promise 1: what isn't a text is refused by -1, and nothing else is."""
+"""Promises 1 and 2: what isn't a text is refused by -1, by each call, and nothing else is."""
 
 import random
 import unittest
 
-from helper import as_bytes, ask_true, is_text
-from wholesays.sentences import is_true
+from helper import as_bytes, ask_least, ask_true, is_text
+from wholesays.sentences import is_true, least
 
 TEXTS = (
     "[0=0]",
@@ -25,14 +25,21 @@ class Asking(unittest.TestCase):
         for text in texts:
             with self.subTest(text=text):
                 self.assertEqual(ask_true(text), [-1])
+                self.assertEqual(ask_least(text), [-1])
 
     def taken(self, *texts):
         for text in texts:
             with self.subTest(text=text):
                 self.assertIn(ask_true(text), ([0], [1], [-3]))
+                self.assertIn(ask_least(text)[0], (0, 1, -3))
 
     def as_told(self, text):
         self.assertEqual(ask_true(text) != [-1], is_text(text), text)
+        self.assertEqual(ask_least(text) != [-1], is_text(text), text)
+
+    def refused_bytes(self, handed):
+        self.assertEqual(is_true(handed), [-1])
+        self.assertEqual(least(handed), [-1])
 
 
 class Numbers(Asking):
@@ -115,7 +122,7 @@ class Binders(Asking):
 class Bytes(Asking):
     def test_one_byte(self):
         for byte in range(256):
-            self.assertEqual(is_true([byte]), [-1])
+            self.refused_bytes([byte])
 
     def test_blanks_and_others_anywhere(self):
         for text in TEXTS:
@@ -123,7 +130,7 @@ class Bytes(Asking):
                 for byte in (0, 9, 10, 13, 32, 44, 127, 128, 160, 255):
                     handed = as_bytes(text)
                     handed.insert(place, byte)
-                    self.assertEqual(is_true(handed), [-1])
+                    self.refused_bytes(handed)
 
     def test_each_byte_in_each_place(self):
         for text in TEXTS:
@@ -148,11 +155,11 @@ class Ends(Asking):
     def test_something_behind(self):
         for text in TEXTS:
             for byte in range(256):
-                self.assertEqual(is_true(as_bytes(text) + [byte]), [-1])
+                self.refused_bytes(as_bytes(text) + [byte])
             self.refused(text + text, text + "&" + text, text + " ")
 
     def test_no_bytes(self):
-        self.assertEqual(is_true([]), [-1])
+        self.refused_bytes([])
 
 
 class WhichRefusal(Asking):
@@ -163,6 +170,8 @@ class WhichRefusal(Asking):
     def test_free_comes_where_it_is_a_text(self):
         self.assertEqual(ask_true("(Ex[x=0]&[y=0])"), [-3])
         self.assertEqual(ask_true("[x=0]"), [-3])
+        self.assertEqual(ask_least("(Ex[x=0]&[y=0])"), [-3])
+        self.assertEqual(ask_least("[x=0]"), [1, 0])
 
 
 class Changed(Asking):

@@ -1,9 +1,10 @@
 """Sentences about whole numbers: read from bytes and decided."""
 
-# The answers that refuse.
+# The answers that refuse, and what stands in their place where none is due.
 TOO_LONG = -2
 NO_TEXT = -1
 FREE_UNKNOWN = -3
+NO_REFUSAL = 0
 
 LONGEST = 64
 MOST_BINDERS = 3
@@ -48,6 +49,7 @@ class Reader:
     def __init__(self, text):
         self.text = text
         self.place = 0
+        self.refusal = NO_REFUSAL
         self.free = [False, False, False]
         self.waiting = []
         self.steps = []
@@ -78,6 +80,8 @@ class Reader:
         return UNKNOWNS.index(byte)
 
     def read_whole(self):
+        if self.text.count(ALL) + self.text.count(SOME) > MOST_BINDERS or self.text.count(CLAIM_START) > MOST_CLAIMS:
+            raise NoText()
         self.read_to_claim()
         while len(self.waiting) > 0:
             self.go_on_behind_text()
@@ -163,11 +167,16 @@ class Reader:
         return unknown
 
 
+# The steps and the free unknowns that the reader holds count only where it holds no refusal.
 def read_text(text):
-    if text.count(ALL) + text.count(SOME) > MOST_BINDERS or text.count(CLAIM_START) > MOST_CLAIMS:
-        raise NoText()
     reader = Reader(text)
-    reader.read_whole()
+    if len(text) > LONGEST:
+        reader.refusal = TOO_LONG
+        return reader
+    try:
+        reader.read_whole()
+    except NoText:
+        reader.refusal = NO_TEXT
     return reader
 
 
@@ -334,12 +343,22 @@ def is_claim_so(step, point):
 
 # The call that the words name true.
 def is_true(text):
-    if len(text) > LONGEST:
-        return [TOO_LONG]
-    try:
-        reader = read_text(text)
-    except NoText:
-        return [NO_TEXT]
+    reader = read_text(text)
+    if reader.refusal != NO_REFUSAL:
+        return [reader.refusal]
     if any(reader.free):
         return [FREE_UNKNOWN]
     return [1 if is_so(reader.steps, [0, 0, 0]) else 0]
+
+
+def least(text):
+    reader = read_text(text)
+    if reader.refusal != NO_REFUSAL:
+        return [reader.refusal]
+    if reader.free[1] or reader.free[2]:
+        return [FREE_UNKNOWN]
+    # One value of x tells of all: trying more would only take time.
+    if not reader.free[0]:
+        return [1, 0] if is_so(reader.steps, [0, 0, 0]) else [0]
+    found = least_value(0, reader.steps, [0, 0, 0], True)
+    return [0] if found is None else [1, found]

@@ -3,7 +3,7 @@
 import random
 import unittest
 
-from helper import ask_least, ask_true, least_by_trial, true_by_trial
+from helper import ByTrial, Writer, ask_least, ask_true, least_by_trial, true_by_trial
 
 # A number of 99 at most on each side: claims change last at 99, and rests come round within 2520.
 ONE_DEEP_REACH = (2625,)
@@ -15,123 +15,6 @@ TWO_DEEP_REACHES = (62, 152)
 
 # Of the gaps that are written here there is none where the outer number is 3 * 60 or more.
 GAP_REACHES = (180, 600)
-
-
-class Writer:
-    """Writes texts by chance, always the same ones."""
-
-    def __init__(self, seed, most_times, most_number, most_divisor):
-        self.chance = random.Random(seed)
-        self.most_times = most_times
-        self.most_number = most_number
-        self.most_divisor = most_divisor
-
-    def part(self, unknown):
-        times = self.chance.randint(1, self.most_times)
-        return unknown if times == 1 else f"{times}{unknown}"
-
-    def total(self, bound):
-        parts = [self.part(unknown) for unknown in bound if self.chance.random() < 0.6]
-        if not parts or self.chance.random() < 0.5:
-            parts.append(str(self.chance.randint(0, self.most_number)))
-        self.chance.shuffle(parts)
-        return "+".join(parts)
-
-    def claim(self, bound):
-        if self.chance.random() < 0.3:
-            divisor = self.chance.randint(2, self.most_divisor)
-            return f"[{self.total(bound)}%{divisor}={self.chance.randrange(divisor)}]"
-        return f"[{self.total(bound)}{self.chance.choice('<=')}{self.total(bound)}]"
-
-    def text(self, bound, claims):
-        if self.chance.random() < 0.2:
-            return "!" + self.text(bound, claims)
-        if claims == 1:
-            return self.claim(bound)
-        first = self.chance.randint(1, claims - 1)
-        sign = self.chance.choice("&|>")
-        return f"({self.text(bound, first)}{sign}{self.text(bound, claims - first)})"
-
-    def binder(self, unknown):
-        return self.chance.choice("AE") + unknown
-
-    def one_deep(self):
-        unknown = self.chance.choice("xyz")
-        return self.binder(unknown) + self.text([unknown], self.chance.randint(1, 6))
-
-    def two_deep(self):
-        outer, inner = self.chance.sample("xyz", 2)
-        within = self.binder(inner) + self.text([outer, inner], self.chance.randint(1, 4))
-        if self.chance.random() < 0.4:
-            sign = self.chance.choice("&|>")
-            within = f"({self.text([outer], 1)}{sign}{within})"
-        return self.binder(outer) + within
-
-    def flat(self):
-        """Of x alone, without A and E."""
-        return self.text(["x"], self.chance.randint(1, 6))
-
-    def of_x(self):
-        """One deep, with x free or bound twice over."""
-        inner = self.chance.choice("yyyzzzx")
-        within = self.binder(inner) + self.text(sorted({"x", inner}), self.chance.randint(1, 4))
-        if inner == "x" or self.chance.random() < 0.4:
-            sign = self.chance.choice("&|>")
-            within = f"({self.text(['x'], 1)}{sign}{within})"
-        return within
-
-    def side(self, bound):
-        parts = [self.part(unknown) for unknown in bound if self.chance.random() < 0.7]
-        return "+".join(parts + [str(self.chance.randint(0, self.most_number))])
-
-    def fence(self, unknown):
-        """A claim that no number from 60 on fulfils."""
-        return f"[{unknown}<{self.chance.randint(40, 60)}]"
-
-    def fenced(self):
-        """Two deep, and decided by numbers below 60."""
-        outer, inner = self.chance.sample("xyz", 2)
-        pair = [outer, inner]
-        claims = [f"[{self.side(pair)}{sign}{self.side(pair)}]" for sign in self.chance.choice(("==", "=<", "<<"))]
-        rest = self.claim(pair) if self.chance.random() < 0.5 else self.fence(outer)
-        within = f"(({claims[0]}&{claims[1]})&({rest}&{self.fence(inner)}))"
-        return self.chance.choice((
-            f"E{outer}({self.fence(outer)}&E{inner}{within})",
-            f"A{outer}({self.fence(outer)}>!E{inner}{within})",
-            f"E{outer}({self.fence(outer)}&A{inner}({self.fence(inner)}>({claims[0]}|{claims[1]})))",
-            f"A{outer}({self.fence(outer)}>E{inner}({self.fence(inner)}&!({claims[0]}&{claims[1]})))",
-        ))
-
-    def fenced_of_x(self):
-        """One deep, with x free, and decided by numbers below 60."""
-        pair = ["x", self.chance.choice("yz")]
-        claims = [f"[{self.side(pair)}{sign}{self.side(pair)}]" for sign in self.chance.choice(("==", "=<", "<<"))]
-        fence = self.fence(pair[1])
-        return self.chance.choice((
-            f"({self.fence('x')}&E{pair[1]}(({claims[0]}&{claims[1]})&{fence}))",
-            f"({self.fence('x')}&A{pair[1]}({fence}>({claims[0]}|{claims[1]})))",
-            f"!({self.fence('x')}>E{pair[1]}({fence}&({claims[0]}>{claims[1]})))",
-        ))
-
-    def gap(self):
-        """For some number the gap is as gap_of says."""
-        outer, inner = self.chance.sample("xyz", 2)
-        return f"E{outer}{self.gap_of(outer, inner)}"
-
-    def gap_of_x(self):
-        return self.gap_of("x", self.chance.choice("yz"))
-
-    def gap_of(self, outer, inner):
-        """Of numbers between two sums, which get ever fewer: there are some, and all leave a rest."""
-        while True:
-            a, b, c, d = [self.chance.randint(1, self.most_times) for _ in range(4)]
-            if a * c > b * d:
-                break
-        number = self.chance.randint(self.most_number // 2, self.most_number)
-        between = f"([{a}{outer}<{b}{inner}]&[{c}{inner}<{d}{outer}+{number}])"
-        divisor = self.chance.randint(2, self.most_divisor)
-        rest = f"[{inner}%{divisor}={self.chance.randrange(divisor)}]"
-        return f"(E{inner}{between}&A{inner}({between}>{rest}))"
 
 
 class Crossing(unittest.TestCase):
@@ -187,27 +70,10 @@ class Crossing(unittest.TestCase):
                     self.assertEqual(ask_true(text), [int((point[0] + 2 * point[1]) % divisor == rest)], (text, point))
 
 
-class ByTrial(unittest.TestCase):
-    def compare(self, write, count, ask, answer_by_trial):
-        answers = []
-        while len(answers) < count:
-            text = write()
-            if len(text) <= 64:
-                answer = ask(text)
-                self.assertEqual(answer, answer_by_trial(text), text)
-                answers.append(answer)
-        return answers
-
-    # No answer may stand for nearly all.
-    def assert_common(self, answers, share, which):
-        self.assertGreater(len([answer for answer in answers if which(answer)]), len(answers) // share)
-
-
 class TrueByTrial(ByTrial):
     def both_answers(self, write, count, reaches):
         answers = self.compare(write, count, ask_true, lambda text: true_by_trial(text, reaches))
-        self.assert_common(answers, 5, lambda answer: answer == [0])
-        self.assert_common(answers, 5, lambda answer: answer == [1])
+        self.assert_both_common(answers)
 
     def test_one_deep(self):
         self.both_answers(Writer(11, 9, 99, 9).one_deep, 1500, ONE_DEEP_REACH)

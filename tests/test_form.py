@@ -75,6 +75,46 @@ class Form(unittest.TestCase):
                 if isinstance(node, ast.Attribute):
                     self.assertIn(node.attr, own | set(METHODS), (path, node.lineno))
 
+    def test_plain_names(self):
+        for path, text in sources():
+            for node in ast.walk(ast.parse(text)):
+                for name in [getattr(node, part, None) for part in ("id", "arg", "attr", "name")]:
+                    if isinstance(name, str) and name != "__init__":
+                        self.assertRegex(name, r"\A[A-Za-z][A-Za-z0-9_]*\Z", (path, node.lineno))
+
+    def test_top_is_bound_once(self):
+        for path, text in sources():
+            top = [node for node in ast.parse(text).body if not isinstance(node, (ast.Expr, ast.ImportFrom))]
+            names = [node.targets[0].id if isinstance(node, ast.Assign) else node.name for node in top]
+            self.assertEqual(len(names), len(set(names)), path)
+            for node in top:
+                if isinstance(node, ast.Assign):
+                    ast.literal_eval(node.value)
+
+    def test_functions_are_plain(self):
+        for path, text in sources():
+            for node in ast.walk(ast.parse(text)):
+                if isinstance(node, ast.FunctionDef):
+                    spec = node.args
+                    self.assertEqual((node.decorator_list, spec.vararg, spec.kwarg, spec.kwonlyargs, spec.posonlyargs),
+                                     ([], None, None, [], []), (path, node.lineno))
+                if isinstance(node, ast.ClassDef):
+                    self.assertEqual(node.decorator_list, [], (path, node.lineno))
+                    self.assertLessEqual(len(node.bases), 1, (path, node.lineno))
+
+    def test_forms_within(self):
+        for path, text in sources():
+            for node in ast.walk(ast.parse(text)):
+                if isinstance(node, ast.ListComp):
+                    self.assertEqual(len(node.generators), 1, (path, node.lineno))
+                    self.assertLessEqual(len(node.generators[0].ifs), 1, (path, node.lineno))
+                if isinstance(node, ast.Compare) and isinstance(node.ops[0], (ast.Is, ast.IsNot)):
+                    self.assertIsInstance(node.comparators[0], ast.Constant, (path, node.lineno))
+                if isinstance(node, (ast.For, ast.While)):
+                    self.assertEqual(node.orelse, [], (path, node.lineno))
+                if isinstance(node, ast.Try):
+                    self.assertEqual(node.finalbody, [], (path, node.lineno))
+
     def test_imports_nothing_from_outside(self):
         for path, text in sources():
             for node in ast.walk(ast.parse(text)):

@@ -1,10 +1,10 @@
-"""Promises 1 and 2: what isn't a text is refused by -1, by each call, and nothing else is."""
+"""Promises 1 to 3: what isn't a text is refused by -1, by each call, and nothing else is."""
 
 import random
 import unittest
 
-from helper import as_bytes, ask_least, ask_true, is_text
-from wholesays.sentences import is_true, least
+from helper import as_bytes, ask_holds, ask_least, ask_true, is_text
+from wholesays.sentences import holds, is_true, least
 
 TEXTS = (
     "[0=0]",
@@ -19,6 +19,8 @@ TEXTS = (
 
 NUMBERS = "0123456789"
 
+V = (3, 0, 60)
+
 
 class Asking(unittest.TestCase):
     def refused(self, *texts):
@@ -26,20 +28,24 @@ class Asking(unittest.TestCase):
             with self.subTest(text=text):
                 self.assertEqual(ask_true(text), [-1])
                 self.assertEqual(ask_least(text), [-1])
+                self.assertEqual(ask_holds(text, V), [-1])
 
     def taken(self, *texts):
         for text in texts:
             with self.subTest(text=text):
                 self.assertIn(ask_true(text), ([0], [1], [-3]))
                 self.assertIn(ask_least(text)[0], (0, 1, -3))
+                self.assertIn(ask_holds(text, V), ([0], [1]))
 
     def as_told(self, text):
         self.assertEqual(ask_true(text) != [-1], is_text(text), text)
         self.assertEqual(ask_least(text) != [-1], is_text(text), text)
+        self.assertEqual(ask_holds(text, V) != [-1], is_text(text), text)
 
     def refused_bytes(self, handed):
         self.assertEqual(is_true(handed), [-1])
         self.assertEqual(least(handed), [-1])
+        self.assertEqual(holds(handed, list(V)), [-1])
 
 
 class Numbers(Asking):
@@ -172,6 +178,8 @@ class WhichRefusal(Asking):
         self.assertEqual(ask_true("[x=0]"), [-3])
         self.assertEqual(ask_least("(Ex[x=0]&[y=0])"), [-3])
         self.assertEqual(ask_least("[x=0]"), [1, 0])
+        self.assertEqual(ask_holds("(Ex[x=0]&[y=0])", V), [1])
+        self.assertEqual(ask_holds("[x=0]", V), [0])
 
 
 class Changed(Asking):

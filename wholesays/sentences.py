@@ -362,3 +362,10 @@ def least(text):
         return [1, 0] if is_so(reader.steps, [0, 0, 0]) else [0]
     found = least_value(0, reader.steps, [0, 0, 0], True)
     return [0] if found is None else [1, found]
+
+
+def holds(text, v):
+    reader = read_text(text)
+    if reader.refusal != NO_REFUSAL:
+        return [reader.refusal]
+    return [1 if is_so(reader.steps, v) else 0]

@@ -6,7 +6,7 @@ import re
 import sys
 import unittest
 
-from wholesays.sentences import holds, is_true, least
+from wholesays.sentences import holds, is_true, least, same
 
 PART = "(?:0|[1-9][0-9]?|[1-9]?[xyz])"
 SUM = rf"{PART}(?:\+{PART})*"
@@ -31,6 +31,10 @@ def ask_least(text):
 
 def ask_holds(text, v):
     return holds(as_bytes(text), list(v))
+
+
+def ask_same(a, b):
+    return same(as_bytes(a), as_bytes(b))
 
 
 def seal(text):
@@ -120,6 +124,15 @@ def least_by_trial(text, reaches):
 def holds_by_trial(text, v, reaches):
     """Whether it is so of v, if A and E, from the outermost in, try just the numbers below these reaches."""
     return [1 if eval(whole_source(text, reaches), dict(zip("xyz", v))) else 0]
+
+
+def same_by_trial(a, b, free, reaches):
+    """Whether both are so alike, if these free unknowns, then A and E, try just the numbers below the reaches."""
+    inner = reaches[len(free):]
+    written = f"{whole_source(a, inner)} == {whole_source(b, inner)}"
+    for unknown, reach in reversed(list(zip(free, reaches))):
+        written = f"all({written} for {unknown} in range({reach}))"
+    return [1 if eval(written) else 0]
 
 
 class Writer:
@@ -239,6 +252,37 @@ class Writer:
         return f"(E{inner}{between}&A{inner}({between}>{rest}))"
 
 
+class Crosser:
+    """Writes two claims of equal sums that can only meet in one point, always the same ones."""
+
+    def __init__(self, seed):
+        self.chance = random.Random(seed)
+
+    def line(self, point):
+        left = [self.chance.randint(0, 3) for _ in point]
+        right = [self.chance.randint(0, 3) for _ in point]
+        slopes = [a - b for a, b in zip(left, right)]
+        number = -sum(slope * value for slope, value in zip(slopes, point))
+        return left, right, slopes, number
+
+    def written(self, line):
+        left, right, _, number = line
+        sides = []
+        for times, alone in ((left, max(number, 0)), (right, max(-number, 0))):
+            parts = [f"{count}{unknown}" for count, unknown in zip(times, "xy") if count > 0]
+            sides.append("+".join(parts + [str(alone)]))
+        return f"[{sides[0]}={sides[1]}]"
+
+    def cross(self):
+        """Two claims that meet in a point, and the point."""
+        while True:
+            point = [self.chance.randint(0, 200), self.chance.randint(0, 200)]
+            first, second = self.line(point), self.line(point)
+            crossing = first[2][0] * second[2][1] != first[2][1] * second[2][0]
+            if crossing and abs(first[3]) <= 60 and abs(second[3]) <= 60:
+                return f"({self.written(first)}&{self.written(second)})", point
+
+
 class ByTrial(unittest.TestCase):
     def compare(self, write, count, ask, answer_by_trial):
         answers = []
@@ -254,6 +298,6 @@ class ByTrial(unittest.TestCase):
     def assert_common(self, answers, share, which):
         self.assertGreater(len([answer for answer in answers if which(answer)]), len(answers) // share)
 
-    def assert_both_common(self, answers):
-        self.assert_common(answers, 5, lambda answer: answer == [0])
-        self.assert_common(answers, 5, lambda answer: answer == [1])
+    def assert_both_common(self, answers, share=5):
+        self.assert_common(answers, share, lambda answer: answer == [0])
+        self.assert_common(answers, share, lambda answer: answer == [1])

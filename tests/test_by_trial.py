@@ -1,9 +1,8 @@
 """Promises 1 and 2: many texts, each also answered by trying numbers, as far as their size calls for."""
 
-import random
 import unittest
 
-from helper import ByTrial, Writer, ask_least, ask_true, least_by_trial, true_by_trial
+from helper import ByTrial, Crosser, Writer, ask_least, ask_true, least_by_trial, true_by_trial
 
 # A number of 99 at most on each side: claims change last at 99, and rests come round within 2520.
 ONE_DEEP_REACH = (2625,)
@@ -18,52 +17,26 @@ GAP_REACHES = (180, 600)
 
 
 class Crossing(unittest.TestCase):
-    """Two claims of equal sums that can only meet in one point."""
-
     def setUp(self):
-        self.chance = random.Random(13)
-
-    def line(self, point):
-        left = [self.chance.randint(0, 3) for _ in point]
-        right = [self.chance.randint(0, 3) for _ in point]
-        slopes = [a - b for a, b in zip(left, right)]
-        number = -sum(slope * value for slope, value in zip(slopes, point))
-        return left, right, slopes, number
-
-    def written(self, line):
-        left, right, _, number = line
-        sides = []
-        for times, alone in ((left, max(number, 0)), (right, max(-number, 0))):
-            parts = [f"{count}{unknown}" for count, unknown in zip(times, "xy") if count > 0]
-            sides.append("+".join(parts + [str(alone)]))
-        return f"[{sides[0]}={sides[1]}]"
-
-    def cross(self):
-        """Two claims that meet in a point, and the point."""
-        while True:
-            point = [self.chance.randint(0, 200), self.chance.randint(0, 200)]
-            first, second = self.line(point), self.line(point)
-            crossing = first[2][0] * second[2][1] != first[2][1] * second[2][0]
-            if crossing and abs(first[3]) <= 60 and abs(second[3]) <= 60:
-                return f"({self.written(first)}&{self.written(second)})", point
+        self.crosser = Crosser(13)
 
     def test_meeting_point_is_found(self):
         for _ in range(400):
-            both, point = self.cross()
+            both, point = self.crosser.cross()
             for text, answer in ((f"ExEy{both}", 1), (f"EyEx{both}", 1), (f"AxAy!{both}", 0), (f"Ay!Ex{both}", 0)):
                 self.assertEqual(ask_true(text), [answer], (text, point))
 
     def test_least_is_of_the_meeting_point(self):
         for _ in range(400):
-            both, point = self.cross()
+            both, point = self.crosser.cross()
             swapped = both.translate(str.maketrans("xy", "yx"))
             for text, answer in ((f"Ey{both}", point[0]), (f"!Ay!{both}", point[0]), (f"Ey{swapped}", point[1])):
                 self.assertEqual(ask_least(text), [1, answer], (text, point))
 
     def test_no_other_point_is_found(self):
         for _ in range(400):
-            both, point = self.cross()
-            divisor = self.chance.randint(2, 4)
+            both, point = self.crosser.cross()
+            divisor = self.crosser.chance.randint(2, 4)
             for rest in range(divisor):
                 text = f"ExEy({both}&[x+2y%{divisor}={rest}])"
                 if len(text) <= 64:

@@ -1,10 +1,10 @@
-"""Promises 1 to 3: what isn't a text is refused by -1, by each call, and nothing else is."""
+"""Promises 1 to 4: what isn't a text is refused by -1, by each call, and nothing else is."""
 
 import random
 import unittest
 
-from helper import as_bytes, ask_holds, ask_least, ask_true, is_text
-from wholesays.sentences import holds, is_true, least
+from helper import as_bytes, ask_holds, ask_least, ask_same, ask_true, is_text
+from wholesays.sentences import holds, is_true, least, same
 
 TEXTS = (
     "[0=0]",
@@ -19,7 +19,9 @@ TEXTS = (
 
 NUMBERS = "0123456789"
 
+# What else is handed in: these are never refused.
 V = (3, 0, 60)
+SHORT = "[0=0]"
 
 
 class Asking(unittest.TestCase):
@@ -29,6 +31,8 @@ class Asking(unittest.TestCase):
                 self.assertEqual(ask_true(text), [-1])
                 self.assertEqual(ask_least(text), [-1])
                 self.assertEqual(ask_holds(text, V), [-1])
+                self.assertEqual(ask_same(text, SHORT), [-1])
+                self.assertEqual(ask_same(SHORT, text), [-1])
 
     def taken(self, *texts):
         for text in texts:
@@ -36,16 +40,22 @@ class Asking(unittest.TestCase):
                 self.assertIn(ask_true(text), ([0], [1], [-3]))
                 self.assertIn(ask_least(text)[0], (0, 1, -3))
                 self.assertIn(ask_holds(text, V), ([0], [1]))
+                self.assertIn(ask_same(text, SHORT), ([0], [1]))
+                self.assertIn(ask_same(SHORT, text), ([0], [1]))
 
     def as_told(self, text):
         self.assertEqual(ask_true(text) != [-1], is_text(text), text)
         self.assertEqual(ask_least(text) != [-1], is_text(text), text)
         self.assertEqual(ask_holds(text, V) != [-1], is_text(text), text)
+        self.assertEqual(ask_same(text, SHORT) != [-1], is_text(text), text)
+        self.assertEqual(ask_same(SHORT, text) != [-1], is_text(text), text)
 
     def refused_bytes(self, handed):
         self.assertEqual(is_true(handed), [-1])
         self.assertEqual(least(handed), [-1])
         self.assertEqual(holds(handed, list(V)), [-1])
+        self.assertEqual(same(handed, as_bytes(SHORT)), [-1])
+        self.assertEqual(same(as_bytes(SHORT), handed), [-1])
 
 
 class Numbers(Asking):
@@ -180,6 +190,8 @@ class WhichRefusal(Asking):
         self.assertEqual(ask_least("[x=0]"), [1, 0])
         self.assertEqual(ask_holds("(Ex[x=0]&[y=0])", V), [1])
         self.assertEqual(ask_holds("[x=0]", V), [0])
+        self.assertEqual(ask_same("(Ex[x=0]&[y=0])", "[y=0]"), [1])
+        self.assertEqual(ask_same("[x=0]", SHORT), [0])
 
 
 class Changed(Asking):

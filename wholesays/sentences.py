@@ -28,6 +28,9 @@ CLAIM_END = 93
 EITHER = 124
 UNKNOWNS = (120, 121, 122)
 
+# One more join, which no text has: just one of both is so.
+DIFFER = 94
+
 # What stands behind the last byte; no byte is like it.
 NOTHING = -1
 
@@ -312,7 +315,7 @@ def is_so(steps, point):
         sign = step[0]
         if sign == NOT:
             answers.append(not answers.pop())
-        elif sign in (BOTH, EITHER, IMPLIES):
+        elif sign in (BOTH, EITHER, IMPLIES, DIFFER):
             second = answers.pop()
             answers.append(is_join_so(sign, answers.pop(), second))
         elif sign == ALL:
@@ -329,7 +332,9 @@ def is_join_so(sign, first, second):
         return first and second
     if sign == EITHER:
         return first or second
-    return second or not first
+    if sign == IMPLIES:
+        return second or not first
+    return first != second
 
 
 def is_claim_so(step, point):
@@ -369,3 +374,18 @@ def holds(text, v):
     if reader.refusal != NO_REFUSAL:
         return [reader.refusal]
     return [1 if is_so(reader.steps, v) else 0]
+
+
+# a and b aren't the same if some numbers of the unknowns that are free in one or the other make them differ.
+def same(a, b):
+    first = read_text(a)
+    second = read_text(b)
+    # The refusal that is told first is the lowest.
+    refusal = min(first.refusal, second.refusal)
+    if refusal != NO_REFUSAL:
+        return [refusal]
+    steps = first.steps + second.steps + [(DIFFER,)]
+    for unknown in range(3):
+        if first.free[unknown] or second.free[unknown]:
+            steps = [(SOME, unknown, steps)]
+    return [0 if is_so(steps, [0, 0, 0]) else 1]
